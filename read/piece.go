@@ -4,6 +4,7 @@ import (
 	"strings"
 
 	"postern/api"
+	"postern/word"
 )
 
 // Kinds of pieces.
@@ -32,11 +33,6 @@ var marks = [...]string{
 	"(", ")", "{", "}", "[", "]", ",", ":", "=", "<", ">", "+", "-", "*", "/", "%", "!",
 }
 
-var keywords = [...]string{
-	"func", "if", "else", "for", "range", "switch", "case", "default", "return", "print", "break",
-	"continue", "delete", "true", "false", "len", "append", "slice", "map", "int", "bool", "string",
-}
-
 // cut a source into pieces, with its end behind them; else the place of what is wrong.
 func cut(s string) ([]piece, int, api.Errno) {
 	var pieces []piece
@@ -58,9 +54,10 @@ func cut(s string) ([]piece, int, api.Errno) {
 
 // first piece of what is left of a source (at least a byte, and that no blank), and how many bytes it has.
 func first(s string) (piece, int, api.Errno) {
+	if long := word.Long(s); long > 0 {
+		return wordPiece(s[:long])
+	}
 	switch {
-	case isLetter(s[0]):
-		return cutWord(s)
 	case isDigit(s[0]):
 		return cutNumber(s)
 	case s[0] == '"':
@@ -74,20 +71,15 @@ func first(s string) (piece, int, api.Errno) {
 	return piece{}, 0, api.ErrForm
 }
 
-func cutWord(s string) (piece, int, api.Errno) {
-	long := 1
-	for long < len(s) && (isLetter(s[long]) || isDigit(s[long])) {
-		long++
-	}
-	if long > api.MaxName {
+func wordPiece(s string) (piece, int, api.Errno) {
+	if len(s) > api.MaxName {
 		return piece{}, 0, api.ErrSize
 	}
-	for _, k := range keywords {
-		if s[:long] == k {
-			return piece{kind: keyword, s: k}, long, api.OK
-		}
+	p := piece{kind: name, s: strings.Clone(s)}
+	if word.IsKeyword(s) {
+		p.kind = keyword
 	}
-	return piece{kind: name, s: strings.Clone(s[:long])}, long, api.OK
+	return p, len(s), api.OK
 }
 
 func cutNumber(s string) (piece, int, api.Errno) {
@@ -144,7 +136,5 @@ func escaped(s string) (byte, bool) {
 }
 
 func isBlank(c byte) bool { return c == ' ' || c == '\t' || c == '\n' }
-
-func isLetter(c byte) bool { return 'a' <= c && c <= 'z' }
 
 func isDigit(c byte) bool { return '0' <= c && c <= '9' }
