@@ -9,44 +9,47 @@ import (
 
 // Maker of the code of a function.
 type Maker struct {
-	code  api.Code
-	here  int  // the block that is being filled
-	ended bool // nothing more comes into it
+	code   api.Code
+	here   int  // the block that is being filled
+	ended  bool // nothing more comes into it
+	next   int  // the first variable that is free
+	instrs int  // so many there are
 }
 
 // Function: the code of one with so many params and results, as body makes it of its params.
 func Function(name string, params, results int, body func(m *Maker, params []int)) api.Code {
 	m := &Maker{code: api.Code{Name: name, Params: params, Results: results}}
 	m.fill(m.block())
-	body(m, m.fresh(params))
+	body(m, m.Fresh(params))
 	return m.code
 }
 
-// fresh variables, so many.
-func (m *Maker) fresh(n int) []int {
+// Fresh variables, so many.
+func (m *Maker) Fresh(n int) []int {
 	vars := make([]int, n)
 	for i := range vars {
-		vars[i] = m.code.Vars
-		m.code.Vars++
+		vars[i] = m.next
+		m.next++
 	}
+	m.code.Vars = max(m.code.Vars, m.next)
 	return vars
 }
 
-// block: the place of a new one.
-func (m *Maker) block() int {
-	m.code.Blocks = append(m.code.Blocks, nil)
-	return len(m.code.Blocks) - 1
+// Freeing: what is made by do is not needed behind it, and its variables are fresh ones again.
+func (m *Maker) Freeing(do func()) {
+	first := m.next
+	do()
+	m.next = first
 }
 
-// fill a block from now on.
-func (m *Maker) fill(block int) {
-	m.here, m.ended = block, false
-}
+// Open: does an instruction count that comes next? What would stand behind the end of a block is never done, and when there are more than a function may have, no more are needed to see that.
+func (m *Maker) Open() bool { return !m.ended && m.instrs <= api.MaxInstrs }
 
-// Do an instruction next; what would stand behind the end of a block is never done, and left out.
+// Do an instruction next.
 func (m *Maker) Do(in api.Instr) {
-	if !m.ended {
+	if m.Open() {
 		m.code.Blocks[m.here] = append(m.code.Blocks[m.here], in)
+		m.instrs++
 	}
 }
 
@@ -56,46 +59,56 @@ func (m *Maker) end(in api.Instr) {
 	m.ended = true
 }
 
+// into a variable: what an instruction makes.
+func (m *Maker) into(d int, in api.Instr) {
+	in.Ds = []int{d}
+	m.Do(in)
+}
+
 // value: a fresh variable that an instruction sets.
 func (m *Maker) value(in api.Instr) int {
-	in.Ds = m.fresh(1)
-	m.Do(in)
-	return in.Ds[0]
+	d := m.Fresh(1)[0]
+	m.into(d, in)
+	return d
 }
 
 // Num: a variable that is a number.
-func (m *Maker) Num(n int) int {
-	return m.value(api.Instr{Op: api.Const, N: n})
-}
-
-// Copy: a variable that begins as another one is.
-func (m *Maker) Copy(v int) int {
-	return m.value(api.Instr{Op: api.Move, As: []int{v}})
-}
-
-// Set a variable to what another one is.
-func (m *Maker) Set(v, to int) {
-	m.Do(api.Instr{Op: api.Move, Ds: []int{v}, As: []int{to}})
-}
+func (m *Maker) Num(n int) int { return m.value(number(n)) }
 
 // SetNum: a variable is a number from then on.
-func (m *Maker) SetNum(v, n int) {
-	m.Do(api.Instr{Op: api.Const, Ds: []int{v}, N: n})
-}
+func (m *Maker) SetNum(v, n int) { m.into(v, number(n)) }
+
+func number(n int) api.Instr { return api.Instr{Op: api.Const, N: n} }
+
+// Copy: a variable that begins as another one is.
+func (m *Maker) Copy(v int) int { return m.value(move(v)) }
+
+// Set a variable to what another one is.
+func (m *Maker) Set(v, to int) { m.into(v, move(to)) }
+
+func move(v int) api.Instr { return api.Instr{Op: api.Move, As: []int{v}} }
 
 // Math: a variable that is what an operator makes of two.
-func (m *Maker) Math(a int, op string, b int) int {
-	return m.value(api.Instr{Op: api.Math, S: op, As: []int{a, b}})
-}
+func (m *Maker) Math(a int, op string, b int) int { return m.value(math(a, op, b)) }
+
+// SetMath: a variable is what an operator makes of two.
+func (m *Maker) SetMath(v, a int, op string, b int) { m.into(v, math(a, op, b)) }
 
 // Change a variable to what an operator makes of it and another one.
-func (m *Maker) Change(v int, op string, by int) {
-	m.Do(api.Instr{Op: api.Math, S: op, Ds: []int{v}, As: []int{v, by}})
+func (m *Maker) Change(v int, op string, by int) { m.SetMath(v, v, op, by) }
+
+func math(a int, op string, b int) api.Instr {
+	return api.Instr{Op: api.Math, S: op, As: []int{a, b}}
 }
 
 // Load: a variable that is the word n behind an address.
-func (m *Maker) Load(address, n int) int {
-	return m.value(api.Instr{Op: api.Load, As: []int{address}, N: n})
+func (m *Maker) Load(address, n int) int { return m.value(load(address, n)) }
+
+// SetLoad: a variable is the word n behind an address.
+func (m *Maker) SetLoad(v, address, n int) { m.into(v, load(address, n)) }
+
+func load(address, n int) api.Instr {
+	return api.Instr{Op: api.Load, As: []int{address}, N: n}
 }
 
 // Store a value as the word n behind an address.
@@ -104,43 +117,34 @@ func (m *Maker) Store(address, n, value int) {
 }
 
 // Alloc: the address of so many new words.
-func (m *Maker) Alloc(words int) int {
-	return m.value(api.Instr{Op: api.Alloc, As: []int{words}})
-}
+func (m *Maker) Alloc(words int) int { return m.value(alloc(words)) }
+
+// SetAlloc: a variable is the address of so many new words.
+func (m *Maker) SetAlloc(v, words int) { m.into(v, alloc(words)) }
+
+func alloc(words int) api.Instr { return api.Instr{Op: api.Alloc, As: []int{words}} }
 
 // Call a function; its results.
 func (m *Maker) Call(name string, results int, args ...int) []int {
-	ds := m.fresh(results)
-	m.Do(api.Instr{Op: api.Invoke, S: name, Ds: slices.Clone(ds), As: slices.Clone(args)})
+	ds := m.Fresh(results)
+	m.SetCall(ds, name, args...)
 	return ds
 }
 
-// When a variable is not 0 something is done first.
-func (m *Maker) When(v int, then func()) {
-	inside, behind := m.block(), m.block()
-	m.choose(v, inside, behind)
-	m.fill(inside)
-	then()
-	m.end(api.Instr{Op: api.Jump, To: []int{behind}})
-	m.fill(behind)
+// SetCall: variables are the results of a call.
+func (m *Maker) SetCall(vars []int, name string, args ...int) {
+	m.Do(api.Instr{Op: api.Invoke, S: name, Ds: slices.Clone(vars), As: slices.Clone(args)})
 }
 
-// While what is asked is not 0 a round is done. It is asked ahead of the first round and behind each, not at one place: so no round needs a jump more.
-func (m *Maker) While(ask func() int, round func()) {
-	inside, behind := m.block(), m.block()
-	m.choose(ask(), inside, behind)
-	m.fill(inside)
-	round()
-	m.choose(ask(), inside, behind)
-	m.fill(behind)
-}
-
-// choose the block to go on with.
-func (m *Maker) choose(v, yes, no int) {
-	m.end(api.Instr{Op: api.Choose, As: []int{v}, To: []int{yes, no}})
+// Show variables, as what they are.
+func (m *Maker) Show(as string, vars ...int) {
+	m.Do(api.Instr{Op: api.Show, S: as, As: slices.Clone(vars)})
 }
 
 // Back to what called the function, with results.
 func (m *Maker) Back(results ...int) {
 	m.end(api.Instr{Op: api.Back, As: slices.Clone(results)})
 }
+
+// Fail: the run ends so.
+func (m *Maker) Fail(how int) { m.end(api.Instr{Op: api.Fail, N: how}) }

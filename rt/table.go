@@ -1,47 +1,33 @@
 package rt
 
-import "postern/emit"
+import (
+	"postern/emit"
+	"postern/layout"
+)
 
 // findName: the functions that look for a key call this one.
 const findName = "_find"
-
-// Words of a map, behind its address.
-const (
-	mapEver  = 0 // how many entries came
-	mapRoom  = 1 // for how many there is room
-	mapWhere = 2 // the address of the first one
-	mapLive  = 3 // how many live
-	mapWords = 4
-)
-
-// Words of an entry, behind its address.
-const (
-	entryKey   = 0
-	entryValue = 1
-	entryLives = 2
-	entryWords = 3
-)
 
 // newRoom: for so many entries there is room in a new map.
 const newRoom = 4
 
 // newMap, with its entries right behind it.
 func newMap(m *emit.Maker, _ []int) {
-	table := m.Alloc(m.Num(mapWords + newRoom*entryWords))
-	m.Store(table, mapRoom, m.Num(newRoom))
-	m.Store(table, mapWhere, m.Math(table, "+", m.Num(mapWords)))
+	table := m.Alloc(m.Num(layout.MapWords + newRoom*layout.EntryWords))
+	m.Store(table, layout.MapRoom, m.Num(newRoom))
+	m.Store(table, layout.MapWhere, m.Math(table, "+", m.Num(layout.MapWords)))
 	m.Back(table)
 }
 
 // find the entry with a key.
 func find(m *emit.Maker, params []int) {
 	table, key := params[0], params[1]
-	words := m.Num(entryWords)
-	entry := m.Load(table, mapWhere)
-	end := behindAll(m, entry, m.Load(table, mapEver), words)
+	words := m.Num(layout.EntryWords)
+	entry := m.Load(table, layout.MapWhere)
+	end := behindAll(m, entry, m.Load(table, layout.MapEver), words)
 	m.While(func() int { return m.Math(entry, "<", end) }, func() {
-		m.When(m.Math(m.Load(entry, entryKey), "==", key), func() {
-			m.When(m.Load(entry, entryLives), func() { m.Back(entry) })
+		m.When(m.Math(m.Load(entry, layout.EntryKey), "==", key), func() {
+			m.When(m.Load(entry, layout.EntryLives), func() { m.Back(entry) })
 		})
 		m.Change(entry, "+", words)
 	})
@@ -61,7 +47,7 @@ func whenFound(m *emit.Maker, table, key int, do func(entry int)) {
 
 // get the value of a key.
 func get(m *emit.Maker, params []int) {
-	whenFound(m, params[0], params[1], func(entry int) { m.Back(m.Load(entry, entryValue)) })
+	whenFound(m, params[0], params[1], func(entry int) { m.Back(m.Load(entry, layout.EntryValue)) })
 	m.Back(m.Num(0))
 }
 
@@ -69,19 +55,19 @@ func get(m *emit.Maker, params []int) {
 func put(m *emit.Maker, params []int) {
 	table, key, value := params[0], params[1], params[2]
 	whenFound(m, table, key, func(entry int) {
-		m.Store(entry, entryValue, value)
+		m.Store(entry, layout.EntryValue, value)
 		m.Back()
 	})
-	words := m.Num(entryWords)
-	ever, room := m.Load(table, mapEver), m.Load(table, mapRoom)
+	words := m.Num(layout.EntryWords)
+	ever, room := m.Load(table, layout.MapEver), m.Load(table, layout.MapRoom)
 	m.When(m.Math(ever, ">=", room), func() { widen(m, table, ever, room, words) })
-	entry := behindAll(m, m.Load(table, mapWhere), ever, words)
+	entry := behindAll(m, m.Load(table, layout.MapWhere), ever, words)
 	one := m.Num(1)
-	m.Store(entry, entryKey, key)
-	m.Store(entry, entryValue, value)
-	m.Store(entry, entryLives, one)
-	m.Store(table, mapEver, m.Math(ever, "+", one))
-	m.Store(table, mapLive, m.Math(m.Load(table, mapLive), "+", one))
+	m.Store(entry, layout.EntryKey, key)
+	m.Store(entry, layout.EntryValue, value)
+	m.Store(entry, layout.EntryLives, one)
+	m.Store(table, layout.MapEver, m.Math(ever, "+", one))
+	m.Store(table, layout.MapLive, m.Math(m.Load(table, layout.MapLive), "+", one))
 	m.Back()
 }
 
@@ -89,18 +75,18 @@ func put(m *emit.Maker, params []int) {
 func widen(m *emit.Maker, table, ever, room, words int) {
 	wide := m.Math(room, "+", room)
 	where := m.Alloc(m.Math(wide, "*", words))
-	old := m.Load(table, mapWhere)
+	old := m.Load(table, layout.MapWhere)
 	carry(m, old, behindAll(m, old, ever, words), m.Copy(where))
-	m.Store(table, mapRoom, wide)
-	m.Store(table, mapWhere, where)
+	m.Store(table, layout.MapRoom, wide)
+	m.Store(table, layout.MapWhere, where)
 }
 
 // drop the entry with a key.
 func drop(m *emit.Maker, params []int) {
 	table := params[0]
 	whenFound(m, table, params[1], func(entry int) {
-		m.Store(entry, entryLives, m.Num(0))
-		m.Store(table, mapLive, m.Math(m.Load(table, mapLive), "-", m.Num(1)))
+		m.Store(entry, layout.EntryLives, m.Num(0))
+		m.Store(table, layout.MapLive, m.Math(m.Load(table, layout.MapLive), "-", m.Num(1)))
 	})
 	m.Back()
 }
