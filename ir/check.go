@@ -4,6 +4,7 @@ import (
 	"slices"
 
 	"postern/api"
+	"postern/calc"
 )
 
 // counts: how many results, arguments and places an instruction has.
@@ -128,7 +129,7 @@ func (k checker) inBounds(in api.Instr) bool {
 func inForm(in api.Instr) bool {
 	switch in.Op {
 	case api.Math:
-		return isMath(in.S)
+		return calc.IsOp(in.S)
 	case api.Show:
 		return in.S == showInt || in.S == showBool || in.S == showText
 	case api.Fail:

@@ -4,6 +4,7 @@ import (
 	"slices"
 
 	"postern/api"
+	"postern/calc"
 )
 
 // goesOn: no way in which a run ends.
@@ -77,7 +78,11 @@ func (m *machine) value(in api.Instr) (int, int) {
 	case api.Const:
 		return in.N, goesOn
 	case api.Math:
-		return calc(in.S, m.get(in.As[0]), m.get(in.As[1]))
+		n, ok := calc.Two(m.get(in.As[0]), in.S, m.get(in.As[1]))
+		if !ok {
+			return 0, api.BadZero
+		}
+		return n, goesOn
 	case api.Load:
 		return m.load(m.get(in.As[0]), in.N)
 	case api.Alloc:
@@ -90,7 +95,9 @@ func (m *machine) value(in api.Instr) (int, int) {
 func (m *machine) way(in api.Instr) int {
 	switch in.Op {
 	case api.Choose:
-		return compared("==", m.get(in.As[0]), 0)
+		if m.get(in.As[0]) == 0 {
+			return 1
+		}
 	case api.Pick:
 		last := len(in.To) - 1
 		if n := m.get(in.As[0]); 0 <= n && n < last {
