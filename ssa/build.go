@@ -21,6 +21,21 @@ func started(c api.Code) api.Code {
 	return c
 }
 
+// reached: the code without what stands behind calls that give more than a function may. No program that may be has such a function, so no run gets there; but each result of each call would need a variable of its own, and there may be too many. The calls themselves stay, so that what is made of the code is refused like it where they do not fit.
+func reached(c api.Code) api.Code {
+	blocks := make([][]api.Instr, len(c.Blocks))
+	for b, block := range c.Blocks {
+		blocks[b] = block
+		if at := slices.IndexFunc(block, givesTooMuch); at >= 0 {
+			blocks[b] = slices.Concat(block[:at+1], []api.Instr{{Op: api.Fail, N: api.BadAt}})
+		}
+	}
+	c.Blocks = blocks
+	return c
+}
+
+func givesTooMuch(in api.Instr) bool { return len(in.Ds) > api.MaxWords }
+
 func jump(to int) api.Instr { return api.Instr{Op: api.Jump, To: []int{to}} }
 
 // name of a variable's value, and the block from which on it is the last one that was set.
