@@ -1,22 +1,16 @@
 package ir
 
 import (
-	"slices"
-
 	"postern/api"
-	"postern/calc"
+	"postern/sound"
+	"postern/step"
 )
-
-// goesOn: no way in which a run ends.
-const goesOn = 0
 
 // machine does a program that may be.
 type machine struct {
 	funcs  []api.Code
 	places map[string]int // of functions, by name
-	heap   []int
-	room   int // so many words the heap can have
-	lines  []string
+	state  *step.State
 	calls  []call // that wait for each other; the last one is being done
 	vars   []int  // of all calls, one behind the other
 }
@@ -31,7 +25,7 @@ type call struct {
 
 // newMachine, on which the first function is called.
 func newMachine(p api.Program, room int) *machine {
-	m := &machine{funcs: p.Funcs, places: placesOf(p.Funcs), heap: slices.Clone(p.Data), room: room}
+	m := &machine{funcs: p.Funcs, places: sound.Places(p.Funcs), state: step.New(p.Data, room)}
 	m.begin(p.Funcs[0], nil, nil)
 	return m
 }
@@ -39,7 +33,7 @@ func newMachine(p api.Program, room int) *machine {
 // run so many steps at most; how it ends.
 func (m *machine) run(fuel int) int {
 	for range fuel {
-		if end := m.step(); end != goesOn {
+		if end := m.step(); end != step.GoesOn {
 			return end
 		}
 	}
@@ -51,61 +45,15 @@ func (m *machine) step() int {
 	in := c.next[0]
 	c.next = c.next[1:]
 	switch in.Op {
-	case api.Const, api.Move, api.Math, api.Load, api.Alloc:
-		n, end := m.value(in)
-		if end == goesOn {
-			m.set(in.Ds[0], n)
-		}
-		return end
-	case api.Store:
-		return m.store(m.get(in.As[0]), in.N, m.get(in.As[1]))
-	case api.Show:
-		return m.show(in)
 	case api.Invoke:
 		return m.invoke(in)
 	case api.Back:
 		return m.back(in.As)
-	case api.Fail:
-		return in.N
+	case api.Jump, api.Choose, api.Pick:
+		c.next = c.blocks[in.To[step.Way(in, m.get)]]
+		return step.GoesOn
 	}
-	c.next = c.blocks[in.To[m.way(in)]]
-	return goesOn
-}
-
-// value of an instruction that has one result, and whether the run ends by that.
-func (m *machine) value(in api.Instr) (int, int) {
-	switch in.Op {
-	case api.Const:
-		return in.N, goesOn
-	case api.Math:
-		n, ok := calc.Two(m.get(in.As[0]), in.S, m.get(in.As[1]))
-		if !ok {
-			return 0, api.BadZero
-		}
-		return n, goesOn
-	case api.Load:
-		return m.load(m.get(in.As[0]), in.N)
-	case api.Alloc:
-		return m.alloc(m.get(in.As[0]))
-	}
-	return m.get(in.As[0]), goesOn
-}
-
-// way: which one of its places an instruction goes on with.
-func (m *machine) way(in api.Instr) int {
-	switch in.Op {
-	case api.Choose:
-		if m.get(in.As[0]) == 0 {
-			return 1
-		}
-	case api.Pick:
-		last := len(in.To) - 1
-		if n := m.get(in.As[0]); 0 <= n && n < last {
-			return n
-		}
-		return last
-	}
-	return 0
+	return m.state.Do(in, m.get, func(n int) { m.set(in.Ds[0], n) })
 }
 
 func (m *machine) last() *call { return &m.calls[len(m.calls)-1] }
@@ -120,7 +68,7 @@ func (m *machine) invoke(in api.Instr) int {
 		return api.BadDeep
 	}
 	m.begin(m.funcs[m.places[in.S]], in.As, in.Ds)
-	return goesOn
+	return step.GoesOn
 }
 
 // begin a call, with arguments of the one that is being done, and results there.
@@ -144,5 +92,5 @@ func (m *machine) back(args []int) int {
 		m.set(ended.results[i], m.vars[ended.first+a])
 	}
 	m.vars = m.vars[:ended.first]
-	return goesOn
+	return step.GoesOn
 }
