@@ -4,6 +4,7 @@ import (
 	"slices"
 
 	"postern/api"
+	"postern/bitset"
 )
 
 // started: code to whose first block nothing leads. It may be changed.
@@ -45,7 +46,7 @@ type name struct{ variable, block int }
 type builder struct {
 	*graph
 	flow  flow
-	lives []set
+	lives []bitset.Set
 	wants [][]int        // of each block the variables whose values it must have Phis for
 	names map[int][]name // of each variable; blocks above others stand first
 	next  int            // the first name that is free
@@ -83,7 +84,7 @@ func (b *builder) build() bool {
 
 // zeros: the variables that are asked where nothing has set them.
 func (b *builder) zeros() []int {
-	return slices.DeleteFunc(b.lives[0].all(), func(v int) bool { return v < b.head.Params })
+	return slices.DeleteFunc(b.lives[0].All(), func(v int) bool { return v < b.head.Params })
 }
 
 // place Phis where several values of a variable meet that may be asked; names: how many values there are ahead of that. False: there are more than a function may have.
@@ -116,7 +117,7 @@ func (b *builder) placeOf(v int, sets []int, fronts [][]int) int {
 		at := sets[len(sets)-1]
 		sets = sets[:len(sets)-1]
 		for _, to := range fronts[at] {
-			if b.lives[to].has(v) && !endsWith(b.wants[to], v) {
+			if b.lives[to].Has(v) && !endsWith(b.wants[to], v) {
 				b.wants[to] = append(b.wants[to], v)
 				sets = append(sets, to)
 				many++

@@ -4,6 +4,7 @@ import (
 	"slices"
 
 	"postern/api"
+	"postern/code"
 	"postern/ir"
 )
 
@@ -110,7 +111,7 @@ func check(p api.Program, c api.Code) api.Errno {
 	if errno := ir.CheckCode(p, withoutPhis(c)); errno != api.OK {
 		return errno
 	}
-	k := checker{code: c, flow: flowOf(leadsOf(c.Blocks)), set: map[int]spot{}}
+	k := checker{code: c, flow: flowOf(code.Leads(c.Blocks)), set: map[int]spot{}}
 	if errno := k.phis(); errno != api.OK {
 		return errno
 	}

@@ -3,7 +3,7 @@ package ssa
 import (
 	"slices"
 
-	"postern/api"
+	"postern/code"
 )
 
 // none: no place.
@@ -20,34 +20,11 @@ type flow struct {
 	many  []int   // of each one how many stand there for it: itself, and those below it
 }
 
-// leadsOf blocks: the places that stand in their last instructions.
-func leadsOf(blocks [][]api.Instr) [][]int {
-	leads := make([][]int, len(blocks))
-	for b, block := range blocks {
-		if len(block) > 0 {
-			leads[b] = block[len(block)-1].To
-		}
-	}
-	return leads
-}
-
-func aheadOf(leads [][]int) [][]int {
-	ahead := make([][]int, len(leads))
-	for b, places := range leads {
-		for _, to := range places {
-			if 0 <= to && to < len(leads) && !endsWith(ahead[to], b) {
-				ahead[to] = append(ahead[to], b)
-			}
-		}
-	}
-	return ahead
-}
-
 func endsWith(l []int, n int) bool { return len(l) > 0 && l[len(l)-1] == n }
 
 // flowOf blocks that lead to these places.
 func flowOf(leads [][]int) flow {
-	f := flow{ahead: aheadOf(leads), next: make([][]int, len(leads)), order: orderOf(leads)}
+	f := flow{ahead: code.Ahead(leads), next: make([][]int, len(leads)), order: orderOf(leads)}
 	for to, l := range f.ahead {
 		for _, b := range l {
 			f.next[b] = append(f.next[b], to)

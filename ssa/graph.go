@@ -4,6 +4,7 @@ import (
 	"slices"
 
 	"postern/api"
+	"postern/code"
 )
 
 // graph: code that is being changed.
@@ -23,28 +24,13 @@ type node struct {
 func graphOf(c api.Code) *graph {
 	g := &graph{head: c, blocks: make([]node, len(c.Blocks))}
 	g.head.Blocks = nil
-	ahead := aheadOf(leadsOf(c.Blocks))
+	ahead := code.Ahead(code.Leads(c.Blocks))
 	for b, block := range c.Blocks {
-		all, phis := copies(block), phisOf(block)
+		all, phis := code.Copies(block), phisOf(block)
 		g.blocks[b] = node{ahead[b], all[:phis:phis], all[phis:]}
 	}
 	g.settle()
 	return g
-}
-
-// copies of instructions in new memory, without what their operators do not ask for.
-func copies(block []api.Instr) []api.Instr {
-	l := make([]api.Instr, len(block))
-	for i, in := range block {
-		l[i] = api.Instr{Op: in.Op, Ds: slices.Clone(in.Ds), As: slices.Clone(in.As), To: slices.Clone(in.To)}
-		switch in.Op {
-		case api.Const, api.Load, api.Store, api.Fail:
-			l[i].N = in.N
-		case api.Math, api.Invoke, api.Show:
-			l[i].S = in.S
-		}
-	}
-	return l
 }
 
 func (n *node) end() *api.Instr { return &n.body[len(n.body)-1] }
@@ -136,7 +122,7 @@ func (g *graph) code() api.Code {
 		if len(n.body) == 0 {
 			continue
 		}
-		block := copies(slices.Concat(n.phis, n.body))
+		block := code.Copies(slices.Concat(n.phis, n.body))
 		for i, to := range block[len(block)-1].To {
 			block[len(block)-1].To[i] = places[to]
 		}

@@ -1,64 +1,16 @@
 package ssa
 
 import (
-	"math/bits"
 	"slices"
+
+	"postern/bitset"
 )
 
-const wordBits = 64
-
-// set of variables, a bit for each.
-type set []uint64
-
-func newSet(vars int) set { return make(set, (vars+wordBits-1)/wordBits) }
-
-func (s set) has(v int) bool { return s[v/wordBits]>>(v%wordBits)&1 != 0 }
-
-func (s set) add(vars ...int) {
-	for _, v := range vars {
-		s[v/wordBits] |= 1 << (v % wordBits)
-	}
-}
-
-func (s set) drop(vars ...int) {
-	for _, v := range vars {
-		s[v/wordBits] &^= 1 << (v % wordBits)
-	}
-}
-
-// join all of another one.
-func (s set) join(other set) {
-	for i, w := range other {
-		s[i] |= w
-	}
-}
-
-// meets: is a variable in both?
-func (s set) meets(other set) bool {
-	for i, w := range other {
-		if s[i]&w != 0 {
-			return true
-		}
-	}
-	return false
-}
-
-// all variables of it, in their order.
-func (s set) all() []int {
-	var l []int
-	for i, w := range s {
-		for ; w != 0; w &= w - 1 {
-			l = append(l, i*wordBits+bits.TrailingZeros64(w))
-		}
-	}
-	return l
-}
-
 // lives: of each block the variables that are set ahead of it, and may be asked in it or behind it.
-func (g *graph) lives(f flow) []set {
-	lives := make([]set, len(g.blocks))
+func (g *graph) lives(f flow) []bitset.Set {
+	lives := make([]bitset.Set, len(g.blocks))
 	for b := range lives {
-		lives[b] = newSet(g.head.Vars)
+		lives[b] = bitset.New(g.head.Vars)
 	}
 	for changed := true; changed; {
 		changed = false
@@ -74,15 +26,15 @@ func (g *graph) lives(f flow) []set {
 }
 
 // livesBehind a block: what Phis ask of it is asked at its end.
-func (g *graph) livesBehind(f flow, lives []set, b int) set {
-	live := newSet(g.head.Vars)
+func (g *graph) livesBehind(f flow, lives []bitset.Set, b int) bitset.Set {
+	live := bitset.New(g.head.Vars)
 	for _, to := range f.next[b] {
 		n := &g.blocks[to]
-		live.join(lives[to])
+		live.Join(lives[to])
 		if len(n.phis) > 0 {
 			from := n.from(b)
 			for _, in := range n.phis {
-				live.add(in.As[from])
+				live.Add(in.As[from])
 			}
 		}
 	}
@@ -90,17 +42,17 @@ func (g *graph) livesBehind(f flow, lives []set, b int) set {
 }
 
 // backward through a block, from what lives behind it to what lives ahead of it. What is set at once is looked at while live is what lives behind that.
-func (g *graph) backward(b int, live set, look func(ds []int)) {
+func (g *graph) backward(b int, live bitset.Set, look func(ds []int)) {
 	n := &g.blocks[b]
 	for _, in := range slices.Backward(n.body) {
 		look(in.Ds)
-		live.drop(in.Ds...)
-		live.add(in.As...)
+		live.Drop(in.Ds...)
+		live.Add(in.As...)
 	}
 	var ds []int
 	for _, in := range n.phis {
 		ds = append(ds, in.Ds...)
 	}
 	look(ds)
-	live.drop(ds...)
+	live.Drop(ds...)
 }

@@ -1,29 +1,32 @@
 package ssa
 
-import "postern/api"
+import (
+	"postern/api"
+	"postern/bitset"
+)
 
 // sharer finds variables that can be one: their values are never needed at the same time.
 type sharer struct {
 	*graph
-	first map[int]int // of a variable another one that it is one with; of the first of those there is none
-	ones  []set       // of each first one all that are one with it
-	apart []set       // of each first one those that a value is needed of when one of its is set
+	first map[int]int  // of a variable another one that it is one with; of the first of those there is none
+	ones  []bitset.Set // of each first one all that are one with it
+	apart []bitset.Set // of each first one those that a value is needed of when one of its is set
 }
 
 // newSharer: each variable is alone. Which values are needed when a variable is set is found from the ends of the blocks on.
 func newSharer(g *graph, f flow) *sharer {
-	s := &sharer{graph: g, first: map[int]int{}, ones: make([]set, g.head.Vars), apart: make([]set, g.head.Vars)}
+	s := &sharer{graph: g, first: map[int]int{}, ones: make([]bitset.Set, g.head.Vars), apart: make([]bitset.Set, g.head.Vars)}
 	for v := range g.head.Vars {
-		s.ones[v], s.apart[v] = newSet(g.head.Vars), newSet(g.head.Vars)
-		s.ones[v].add(v)
+		s.ones[v], s.apart[v] = bitset.New(g.head.Vars), bitset.New(g.head.Vars)
+		s.ones[v].Add(v)
 	}
 	lives := g.lives(f)
 	for _, b := range f.order {
 		live := g.livesBehind(f, lives, b)
 		sets := func(ds []int) {
-			live.add(ds...) // as all of them are set at once
+			live.Add(ds...) // as all of them are set at once
 			for _, d := range ds {
-				s.apart[d].join(live)
+				s.apart[d].Join(live)
 			}
 		}
 		g.backward(b, live, sets)
@@ -54,12 +57,12 @@ func (s *sharer) share(a, b int) {
 	if a > b {
 		a, b = b, a
 	}
-	if a == b || s.apart[a].meets(s.ones[b]) || s.apart[b].meets(s.ones[a]) {
+	if a == b || s.apart[a].Meets(s.ones[b]) || s.apart[b].Meets(s.ones[a]) {
 		return
 	}
 	s.first[b] = a
-	s.ones[a].join(s.ones[b])
-	s.apart[a].join(s.apart[b])
+	s.ones[a].Join(s.ones[b])
+	s.apart[a].Join(s.apart[b])
 }
 
 // sharePhis: each of them with what it may have, where that can be: then nothing has to be moved there.
